@@ -1,0 +1,91 @@
+"""The calls on one object, and their answers."""
+
+from measurekinds.forms import normal_form
+from measurekinds.limits import MOST_BASES, MOST_BYTES
+from measurekinds.matching import match_normal, show_substitution
+from measurekinds.meeting import meet_kinds
+from measurekinds.reading import read_kind
+from measurekinds.refusals import BaseTwice, NoBaseName, Refusal, TooFar, TooManyBases
+from measurekinds.shapes import count_variables
+from measurekinds.showing import show_kind
+from measurekinds.signs import bytes_of, is_base_name, text_of
+
+
+def answer_base(bases, texts):
+    name = text_of(texts[0])
+    if not is_base_name(name):
+        raise NoBaseName()
+    if name in bases:
+        raise BaseTwice()
+    if len(bases) == MOST_BASES:
+        raise TooManyBases()
+    bases.append(name)
+    return [0]
+
+
+def answer_normal(bases, texts):
+    kind = normal_form(read_kind(texts[0], bases))
+    return with_text(0, show_kind(kind, bases))
+
+
+def answer_size(bases, texts):
+    kind = normal_form(read_kind(texts[0], bases))
+    return [len(kind.shape), count_variables(kind.shape), len(kind.rows)]
+
+
+def answer_match(bases, texts):
+    general = normal_form(read_kind(texts[0], bases))
+    special = normal_form(read_kind(texts[1], bases))
+    substitution = match_normal(general, special)
+    if substitution is None:
+        return [0]
+    return with_text(1, show_substitution(substitution, general, special, bases))
+
+
+def answer_meet(bases, texts):
+    one = read_kind(texts[0], bases)
+    other = read_kind(texts[1], bases)
+    return with_text(0, show_kind(meet_kinds(one, other), bases))
+
+
+def with_text(number, text):
+    if len(text) > MOST_BYTES:
+        raise TooFar()
+    return [number] + bytes_of(text)
+
+
+# By the number of the call: how many texts it has, and what answers it.
+CALLS = ((1, answer_base), (1, answer_normal), (1, answer_size), (2, answer_match), (2, answer_meet))
+
+
+def answer(bases, number, texts):
+    try:
+        return CALLS[number][1](bases, texts)
+    except Refusal as refusal:
+        return [refusal.number]
+
+
+def split_calls(calls):
+    # Each call as its number and its texts.
+    found = []
+    at = 0
+    while at < len(calls):
+        number = calls[at]
+        at += 1
+        texts = []
+        for turn in range(CALLS[number][0]):
+            end = at + 1 + calls[at]
+            texts.append(calls[at + 1:end])
+            at = end
+        found.append((number, texts))
+    return found
+
+
+def answers(calls):
+    bases = []
+    given = []
+    for number, texts in split_calls(calls):
+        numbers = answer(bases, number, texts)
+        given.append(len(numbers))
+        given.extend(numbers)
+    return given

@@ -1,0 +1,10 @@
+"""The limits that the document sets, each with its name."""
+
+MOST_BASES = 8
+MOST_NAME_SIGNS = 12
+MOST_FACTORS = 60
+MOST_OPENINGS = 40
+MOST_BYTES = 1000
+MOST_PARTS = 40
+MOST_MEASURE_VARIABLES = 26
+LARGEST_POWER = 999

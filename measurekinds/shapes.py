@@ -1,0 +1,48 @@
+"""Shapes: a kind without its measures, as the list of its parts, each before the parts it is made of.
+
+A part is one of the texts truth, num, list, pair and arrow, or a kind variable's own text. The nums of a
+shape stand in it from left to right, as they are written.
+"""
+
+from measurekinds.signs import SMALL_LETTERS
+
+MADE_OF = {"list": 1, "pair": 2, "arrow": 2}
+
+
+def is_variable_part(part):
+    return part.startswith("'")
+
+
+def end_of(shape, start):
+    # Where the kind ends that begins at start.
+    at = start
+    missing = 1
+    while missing > 0:
+        missing += MADE_OF.get(shape[at], 0) - 1
+        at += 1
+    return at
+
+
+def inner_parts(shape):
+    # For each part the list of where the parts begin that it is made of. From right to left, so
+    # that those that are wanted lie on the pile, the left one on top.
+    pile = []
+    found = [[] for part in shape]
+    for at in range(len(shape) - 1, -1, -1):
+        for turn in range(MADE_OF.get(shape[at], 0)):
+            found[at].append(pile.pop())
+        pile.append(at)
+    return found
+
+
+def renamed(shape):
+    names = {}
+    for part in shape:
+        if is_variable_part(part) and part not in names:
+            letter = SMALL_LETTERS[len(names)]
+            names[part] = f"'{letter}"
+    return [names.get(part, part) for part in shape]
+
+
+def count_variables(shape):
+    return len(set([part for part in shape if is_variable_part(part)]))
