@@ -1,7 +1,7 @@
 """Whether a kind is an instance of another, and by which substitution."""
 
 from measurekinds.forms import is_same, kind_within
-from measurekinds.rows import bring_down, column, take_off
+from measurekinds.rows import bring_down, column, picked, take_off
 from measurekinds.shapes import end_of, is_variable_part
 from measurekinds.showing import show_kind, show_measure, variable_names
 
@@ -22,6 +22,13 @@ def match_normal(general, special):
     if measures is None:
         return None
     return Substitution(kinds, measures)
+
+
+def order_normal(one, other):
+    # 1 if the second is an instance of the first, and 2 more if the first is one of the second.
+    over = 0 if match_normal(one, other) is None else 1
+    under = 0 if match_normal(other, one) is None else 2
+    return over + under
 
 
 def match_shapes(general, special):
@@ -67,10 +74,6 @@ def match_measures(general, special, places):
             return None
         taken.append(found[0])
     return [column(taken, at) for at in range(len(general.rows))]
-
-
-def picked(row, places):
-    return [row[place] for place in places]
 
 
 def show_substitution(substitution, general, special, bases):

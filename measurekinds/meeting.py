@@ -1,10 +1,13 @@
-"""The most general common instance of two kinds."""
+"""The most general common instance of two kinds, and the kind of a function put to an argument."""
 
-from measurekinds.forms import Kind
+from measurekinds.forms import Kind, kind_within, normal_form
 from measurekinds.limits import MOST_PARTS
 from measurekinds.refusals import NoCommonMeasure, NoCommonShape
-from measurekinds.rows import bring_down, home_of, staircase
-from measurekinds.shapes import inner_parts, is_variable_part, renamed
+from measurekinds.rows import bring_down, picked, staircase, stairs_behind
+from measurekinds.shapes import end_of, inner_parts, is_variable_part, renamed
+
+# A kind variable that is called like none in a text.
+RESULT = "'"
 
 
 class Meeting:
@@ -100,7 +103,7 @@ def base_rows_of_both(one, other):
 
 def with_differences(row, equal, places):
     # For each two places that must be equal what they differ by, and then the powers in the places.
-    return [row[left] - row[right] for left, right in equal] + [row[place] for place in places]
+    return [row[left] - row[right] for left, right in equal] + picked(row, places)
 
 
 def with_equal_places(shape, rows, base_rows, count):
@@ -111,5 +114,11 @@ def with_equal_places(shape, rows, base_rows, count):
     for row in lowered_rows:
         if any(row[:count]):
             raise NoCommonMeasure()
-    free = [stair[count:] for stair in stairs if home_of(stair) >= count]
-    return Kind(shape, free, [row[count:] for row in lowered_rows])
+    return Kind(shape, stairs_behind(stairs, count), [row[count:] for row in lowered_rows])
+
+
+def apply_kinds(function, argument):
+    # In normal form.
+    wanted = Kind(["arrow"] + argument.shape + [RESULT], argument.rows, argument.base_rows)
+    found = meet_kinds(function, wanted)
+    return normal_form(kind_within(found, end_of(found.shape, 1), len(found.shape)))

@@ -5,22 +5,38 @@ from measurekinds.limits import LARGEST_POWER, MOST_BYTES, MOST_MEASURE_VARIABLE
 from measurekinds.measures import names_in, power_in
 from measurekinds.parsing import parsed
 from measurekinds.refusals import NoKindText, TooFar, TooLarge, UnknownBase
-from measurekinds.signs import is_measure_variable, text_of
-from measurekinds.tokens import tokens_of
+from measurekinds.signs import is_base_name, is_measure_variable, text_of
 
 
-def read_kind(numbers, bases):
+class Reading:
+    # A kind, and what its measure variables are called in the text: one name for each of its rows, in the
+    # order in which they first stand there.
+    def __init__(self, kind, variables):
+        self.kind = kind
+        self.variables = variables
+
+
+def read_text(numbers, bases):
     if len(numbers) > MOST_BYTES:
-        raise NoKindText()
-    parse = parsed(tokens_of(text_of(numbers)))
-    names = names_in(parse.measures)
-    variables = [name for name in names if is_measure_variable(name)]
-    if any([name not in bases and name not in variables for name in names]):
-        raise UnknownBase()
+        raise NoKindText(MOST_BYTES)
+    parse = parsed(text_of(numbers))
+    refuse_unknown_bases(parse, bases)
+    variables = [name for name in names_in(parse.measures) if is_measure_variable(name)]
     if len(parse.shape) > MOST_PARTS or len(variables) > MOST_MEASURE_VARIABLES:
         raise TooLarge()
     rows = [power_row(parse.measures, name) for name in variables]
-    return Kind(parse.shape, rows, [power_row(parse.measures, base) for base in bases])
+    base_rows = [power_row(parse.measures, base) for base in bases]
+    return Reading(Kind(parse.shape, rows, base_rows), variables)
+
+
+def read_kind(numbers, bases):
+    return read_text(numbers, bases).kind
+
+
+def refuse_unknown_bases(parse, bases):
+    for start, factors in zip(parse.measure_starts, parse.measures):
+        if any([is_base_name(name) and name not in bases for name in names_in([factors])]):
+            raise UnknownBase(start)
 
 
 def power_row(measures, name):

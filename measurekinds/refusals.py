@@ -22,13 +22,17 @@ class TooManyBases(Refusal):
 
 
 class NoKindText(Refusal):
-    def __init__(self):
+    # place: where in the text the first token begins that can't stand there, or where the text ends.
+    def __init__(self, place):
         Refusal.__init__(self, -4)
+        self.place = place
 
 
 class UnknownBase(Refusal):
-    def __init__(self):
+    # place: where in the text the first measure begins in which there is such a base.
+    def __init__(self, place):
         Refusal.__init__(self, -5)
+        self.place = place
 
 
 class TooLarge(Refusal):
@@ -49,3 +53,8 @@ class NoCommonShape(Refusal):
 class NoCommonMeasure(Refusal):
     def __init__(self):
         Refusal.__init__(self, -11)
+
+
+class TooManyHeld(Refusal):
+    def __init__(self):
+        Refusal.__init__(self, -13)

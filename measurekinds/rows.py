@@ -19,6 +19,10 @@ def column(rows, at):
     return [row[at] for row in rows]
 
 
+def picked(row, places):
+    return [row[place] for place in places]
+
+
 def bring_down(row, stairs):
     # How many times each stair is taken off, in order, and what then is left of the row.
     left = row
@@ -37,6 +41,11 @@ def staircase(rows):
     for row in rows:
         stairs = lowered(with_row(stairs, row))
     return stairs
+
+
+def stairs_behind(stairs, count):
+    # Of all rows that the stairs span, those that begin with so many zeros, without these.
+    return [stair[count:] for stair in stairs if home_of(stair) >= count]
 
 
 def with_row(stairs, row):

@@ -4,7 +4,7 @@ A part is one of the texts truth, num, list, pair and arrow, or a kind variable'
 shape stand in it from left to right, as they are written.
 """
 
-from measurekinds.signs import SMALL_LETTERS
+from measurekinds.signs import SMALL_LETTERS, unused_names
 
 MADE_OF = {"list": 1, "pair": 2, "arrow": 2}
 
@@ -35,14 +35,21 @@ def inner_parts(shape):
     return found
 
 
-def renamed(shape):
+def variables_in(shape):
+    # Each once, in the order in which they first stand.
     names = {}
     for part in shape:
-        if is_variable_part(part) and part not in names:
-            letter = SMALL_LETTERS[len(names)]
-            names[part] = f"'{letter}"
-    return [names.get(part, part) for part in shape]
+        if is_variable_part(part):
+            names[part] = True
+    return list(names)
 
 
-def count_variables(shape):
-    return len(set([part for part in shape if is_variable_part(part)]))
+def with_names(shape, variables, names):
+    # These variables get these names, one after another.
+    new_names = dict(zip(variables, names))
+    return [new_names.get(part, part) for part in shape]
+
+
+def renamed(shape):
+    variables = variables_in(shape)
+    return with_names(shape, variables, unused_names("'", SMALL_LETTERS, [], len(variables)))

@@ -28,12 +28,15 @@ def show_num(names, powers):
 
 
 def show_kind(kind, bases):
-    names = variable_names(kind) + bases
-    rows = kind.rows + kind.base_rows
-    place = kind.shape.count("num")
+    return show_parts(kind.shape, variable_names(kind) + bases, kind.rows + kind.base_rows)
+
+
+def show_parts(shape, names, rows):
+    # In the rows are the powers of what the names call, in this order.
+    place = shape.count("num")
     # From right to left, so that the shown parts of a part lie on the pile, the left one on top.
     pile = []
-    for part in reversed(kind.shape):
+    for part in reversed(shape):
         if part == "num":
             place -= 1
             pile.append((part, show_num(names, column(rows, place))))

@@ -38,6 +38,18 @@ def is_numbered_letter(text, letters):
     return all([sign in DIGITS for sign in text[1:]])
 
 
+def unused_names(start, letters, taken, count):
+    # The letters alone come first, then those with a 1 behind them, then those with a 2, and so on.
+    found = []
+    number = 0
+    while len(found) < count:
+        end = "" if number == 0 else str(number)
+        names = [f"{start}{letter}{end}" for letter in letters]
+        found.extend([name for name in names if name not in taken])
+        number += 1
+    return found[:count]
+
+
 def is_measure_variable(text):
     return is_numbered_letter(text, CAPITALS)
 

@@ -1,4 +1,4 @@
-"""The tokens of a kind text, each as its own text."""
+"""The tokens of a kind text, each as where it begins and its own text."""
 
 from measurekinds.limits import MOST_OPENINGS
 from measurekinds.measures import measure_factors
@@ -11,14 +11,16 @@ BLANK = " "
 
 def tokens_of(text):
     tokens = []
+    openings = 0
     at = 0
     while at < len(text):
-        token = token_at(text, at)
-        at += len(token)
-        if token == "(" and tokens.count("(") == MOST_OPENINGS:
-            token = BAD
+        found = token_at(text, at)
+        token = BAD if found == "(" and openings == MOST_OPENINGS else found
+        if token == "(":
+            openings += 1
         if token != BLANK:
-            tokens.append(token)
+            tokens.append((at, token))
+        at += len(found)
     return tokens
 
 

@@ -189,3 +189,119 @@ def is_normal_form_of(shown, kind, bases):
     names = list(dict.fromkeys(variables_of(kind)))
     new = {name: ("var", f"'{letter}") for name, letter in zip(names, "abcdefghijklmnopqrst")}
     return without_measures(put_in(kind, new, {})) == without_measures(shown)
+
+
+def is_in_lattice(row, rows):
+    """Whether the row is a sum of whole multiples of the rows: told by minors alone."""
+    rank = max((size for size in range(1, len(rows) + 1) if size <= len(row) and divisor(rows, size)), default=0)
+    if rank == 0:
+        return not any(row)
+    more = rows + [row]
+    if rank < len(row) and divisor(more, rank + 1):
+        return False
+    return divisor(more, rank) == divisor(rows, rank)
+
+
+def joined(one, other, bases, pairs):
+    """A kind over both, not in normal form: the measure variables of the one with L before them, those of the other
+    with R before them, and for each base a variable that is that base in the one and nothing in the other."""
+    if one[0] != other[0] or one[0] == "var":
+        for name, pair in pairs.items():
+            if pair == (one, other):
+                return ("var", name)
+        name = f"'v{len(pairs)}"
+        pairs[name] = (one, other)
+        return ("var", name)
+    if one[0] == "num":
+        return ("num", joined_measure(one[1], other[1], bases))
+    return (one[0],) + tuple(joined(part, more, bases, pairs) for part, more in zip(one[1:], other[1:]))
+
+
+def joined_measure(one, other, bases):
+    found = {}
+    for side, measure in (("L", one), ("R", other)):
+        for name, power in measure.items():
+            if name not in bases:
+                found = product(found, {side + name: power})
+    for base in bases:
+        found = product(found, {f"D{base}": one.get(base, 0)})
+        found = product(found, {f"D{base}": -other.get(base, 0), base: other.get(base, 0)})
+    return found
+
+
+WORD = re.compile(r"[a-z0-9_]+")
+VARIABLE = re.compile(r"'([a-z0-9_]*)")
+FACTOR = r"(1|([a-z][a-z0-9_]{0,11}|[A-Z][0-9]{0,2})(\^-?[0-9]{1,3})?)"
+MEASURE = re.compile(rf"\[{FACTOR}([./]{FACTOR}){{0,59}}\]")
+
+
+def tokens(text):
+    """Where each begins, and the token, or None for a bad one, which is the last."""
+    at = openings = 0
+    while at < len(text):
+        if text[at] == " ":
+            at += 1
+            continue
+        token = token_at(text, at)
+        openings += token == "("
+        if token is None or openings > 40:
+            yield at, None
+            return
+        yield at, token
+        at += len(token)
+
+
+def token_at(text, at):
+    for sign in ("(", ")", ",", "->"):
+        if text.startswith(sign, at):
+            return sign
+    if found := WORD.match(text, at):
+        return found[0]
+    if found := VARIABLE.match(text, at):
+        return found[0] if re.fullmatch("[a-z][0-9]{0,2}", found[1]) else None
+    if text[at] == "[":
+        end = text.find("]", at)
+        return text[at:end + 1] if end >= 0 and MEASURE.fullmatch(text, at, end + 1) else None
+    return None
+
+
+def first_wrong(text):
+    """Where the first token begins that can't stand there, the length if the text ends too early, or None. What
+    must still come is kept on a pile: an item, what can stand behind one, and the ends of brackets."""
+    pile = ["behind", "item"]
+    for at, token in tokens(text):
+        if token is None or not step(pile, token):
+            return at
+    while pile and pile[-1] in ("behind", "measure"):
+        pile.pop()
+    return len(text) if pile else None
+
+
+def step(pile, token):
+    if pile[-1] == "measure":
+        pile.pop()
+        if token[0] == "[":
+            return True
+    if pile[-1] == "item":
+        pile.pop()
+        if token == "list":
+            pile.append("item")
+        elif token == "(":
+            pile.extend(["comma or end", "behind", "item"])
+        elif token == "num":
+            pile.append("measure")
+        else:
+            return token == "truth" or token[0] == "'"
+        return True
+    if pile[-1] == "behind":
+        if token == "->":
+            pile.append("item")
+            return True
+        pile.pop()
+        if not pile:
+            return False
+    end = pile.pop()
+    if token == "," and end == "comma or end":
+        pile.extend(["end", "behind", "item"])
+        return True
+    return token == ")"

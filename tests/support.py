@@ -2,7 +2,7 @@
 
 from measurekinds.kinds import answers
 
-BASE, NORMAL, SIZE, MATCH, MEET = range(5)
+BASE, NORMAL, SIZE, MATCH, MEET, JOIN, ORDER, APPLY, FREE, FAULT = range(10)
 
 
 def as_bytes(text):
@@ -73,3 +73,31 @@ def match(general, special, bases=("m", "s")):
 
 def meet(one, other, bases=("m", "s")):
     return told(ask(bases, MEET, one, other), 0)
+
+
+def join(one, other, bases=("m", "s")):
+    return told(ask(bases, JOIN, one, other), 0)
+
+
+def order(one, other, bases=("m", "s")):
+    answer = ask(bases, ORDER, one, other)
+    if len(answer) != 1:
+        raise AssertionError(f"more than one number: {answer}")
+    return answer[0]
+
+
+def apply(function, argument, bases=("m", "s")):
+    return told(ask(bases, APPLY, function, argument), 0)
+
+
+def held_row(texts):
+    """The texts as one list: each as how many bytes it has, and then they."""
+    return [number for text in texts for number in [len(as_bytes(text))] + as_bytes(text)]
+
+
+def free(kind, *held, bases=("m", "s")):
+    return told(ask(bases, FREE, kind, held_row(held)), 0)
+
+
+def fault(text, bases=("m", "s")):
+    return ask(bases, FAULT, text)

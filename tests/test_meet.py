@@ -88,6 +88,12 @@ class NoCommonShape(unittest.TestCase):
                            ("'a -> 'b -> 'a", "(num, 'y) -> 'y -> 'y")]:
             self.refused(one, other)
 
+    def test_two_such_kind_variables_that_must_be_one(self):
+        one = ["'a", "'a", "'b", "'b", "'a", "'b"]
+        other = ["list 'x", "'x", "list 'y", "'y", "'z", "'z"]
+        for turned in (1, -1):
+            self.refused(" -> ".join(one[::turned]), " -> ".join(other[::turned]))
+
     def test_more_than_40_parts(self):
         inner = "list " * 19 + "truth"
         self.refused("'a -> 'a", f"{inner} -> 'b")

@@ -2,7 +2,9 @@
 
 import unittest
 
-from support import MATCH, MEET, NORMAL, SIZE, ask, normal, size
+from support import APPLY, FREE, JOIN, MATCH, MEET, NORMAL, ORDER, SIZE, ask, held_row, normal, size
+
+TWO_TEXTS = (MATCH, MEET, JOIN, ORDER, APPLY)
 
 CAPITALS = "ABCDEFGHIJKLMNOPQRSTUVWXYZ"
 
@@ -100,9 +102,9 @@ class Measures(unittest.TestCase):
 class NoKindTexts(unittest.TestCase):
     def test_bad_tokens(self):
         for text in ["A", "truth A", "truth -", "truth - > num", "truth -num", "truth > num", "'", "' a", "'1", "'_",
-                     "'A", "'aa", "'a_", "'a1b", "'a100", "'a123", "''a", "num[m", "num[mm", "num[m -> num", "num[", "num]", "num[m]]", "num[m[]",
-                     "num[[m]]", "truth.", "truth\n", "\ttruth", "num[m]?", "truth;", "num{m}", "^", "/", ".", "*",
-                     "num[?]", "truth -> ?", "?"]:
+                     "'A", "'aa", "'a_", "'a1b", "'a100", "'a123", "''a", "num[m", "num[mm", "num[m -> num", "num[",
+                     "num]", "num[m]]", "num[m[]", "num[[m]]", "truth.", "truth\n", "\ttruth", "num[m]?", "truth;",
+                     "num{m}", "^", "/", ".", "*", "num[?]", "truth -> ?", "?"]:
             self.assertEqual(normal(text), -4, text)
 
     def test_every_byte_before_a_text(self):
@@ -227,13 +229,15 @@ class Limits(unittest.TestCase):
         for text, refusal in [("truth truth", -4), ("num[x]", -5), ("list " * 40 + "num", -6), ("num[A^999.A]", -7)]:
             self.assertEqual(ask(["m"], NORMAL, text), [refusal])
             self.assertEqual(ask(["m"], SIZE, text), [refusal])
-            for number in (MATCH, MEET):
+            for number in TWO_TEXTS:
                 self.assertEqual(ask(["m"], number, text, "truth"), [refusal])
                 self.assertEqual(ask(["m"], number, "truth", text), [refusal])
+            self.assertEqual(ask(["m"], FREE, text, []), [refusal])
+            self.assertEqual(ask(["m"], FREE, "truth", held_row([text])), [refusal])
 
     def test_the_earlier_text_is_looked_at_before_the_later_one(self):
         wrong = [("", -4), ("num[x]", -5), ("list " * 40 + "num", -6), ("num[A^999.A]", -7)]
-        for number in (MATCH, MEET):
+        for number in TWO_TEXTS:
             for one, refusal in wrong:
                 for other, unused in wrong:
                     self.assertEqual(ask(["m"], number, one, other), [refusal])
